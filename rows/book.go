@@ -1,8 +1,6 @@
 package rows
 
 import (
-	"slices"
-
 	"vivarium/api"
 	"vivarium/window"
 )
@@ -60,17 +58,4 @@ func (b *Book) remember(beside three, id int) {
 		clear(b.later)
 	}
 	b.later[beside] = id
-}
-
-// ownRule is the same rule in memory of its own: the book asks it when the one that was handed in may have been written over.
-func ownRule(r api.Rule) api.Rule {
-	r.Table.Vars = slices.Clone(r.Table.Vars)
-	for i, v := range r.Table.Vars {
-		r.Table.Vars[i].States = slices.Clone(v.States)
-	}
-	r.Table.Rows = slices.Clone(r.Table.Rows)
-	for i, row := range r.Table.Rows {
-		r.Table.Rows[i].Around = slices.Clone(row.Around)
-	}
-	return r
 }

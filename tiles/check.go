@@ -1,8 +1,6 @@
 package tiles
 
 import (
-	"slices"
-
 	"vivarium/api"
 	"vivarium/field"
 	"vivarium/rule"
@@ -45,17 +43,4 @@ func (b *Board) checkStep(n int) api.Errno {
 		return api.ErrBudget
 	}
 	return api.OK
-}
-
-// ownRule is the same rule in memory of its own: the board asks it when the one that was handed in may have been written over.
-func ownRule(r api.Rule) api.Rule {
-	r.Table.Vars = slices.Clone(r.Table.Vars)
-	for i, v := range r.Table.Vars {
-		r.Table.Vars[i].States = slices.Clone(v.States)
-	}
-	r.Table.Rows = slices.Clone(r.Table.Rows)
-	for i, row := range r.Table.Rows {
-		r.Table.Rows[i].Around = slices.Clone(row.Around)
-	}
-	return r
 }
