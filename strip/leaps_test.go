@@ -81,6 +81,26 @@ func TestRunOfBillions(t *testing.T) {
 	}
 }
 
+// TestRunOfBillionsInSmallSeas: where a sea has few nodes, all that is nobody's business is forgotten between two leaps, at any level; it answers as a greater one does, or is ErrBudget, and from some number of nodes on it answers.
+func TestRunOfBillionsInSmallSeas(t *testing.T) {
+	for _, c := range rounds() {
+		for _, n := range []int{1<<39 - 1, 1 << 39, 987654321987} {
+			want, last := c.later(t, n), api.ErrBudget
+			for most := 1; most < 1<<13; most += 1 + most/7 {
+				s := mustNew(t, c.rule, c.strip, most)
+				got, e := s.Run(c.band, n)
+				if e == api.OK && !same(got, want) || e != api.OK && (e != api.ErrBudget || !isZero(got)) {
+					t.Errorf("%s, %d nodes: Run(.., %d): %v, %d, not %v", c.what, most, n, shortBand(got), e, want)
+				}
+				last = e
+			}
+			if last != api.OK {
+				t.Errorf("%s: Run(.., %d): %d", c.what, n, last)
+			}
+		}
+	}
+}
+
 // TestRunAndRunOn: n and then m generations are n + m.
 func TestRunAndRunOn(t *testing.T) {
 	for _, c := range rounds() {

@@ -81,6 +81,22 @@ func TestMiddleOfHighOnes(t *testing.T) {
 	}
 }
 
+// TestMiddleBeyondThePromise: where the nodes are fewer than the chapter says are enough, but more than are made.
+func TestMiddleBeyondThePromise(t *testing.T) {
+	d := dice(61)
+	for _, a := range append(strips(1), strips(3)...) {
+		rows := d.rowsOf(a, 1<<10, 2)
+		for j := 7; j <= 8; j++ {
+			b := newBoth(t, odd(), a, api.MaxSea)
+			if id := b.node(rows); api.MaxSea-b.sea.Nodes() >= need(10, j) {
+				t.Errorf("%d nodes are enough", api.MaxSea)
+			} else {
+				b.hasMiddle(id, rows, j)
+			}
+		}
+	}
+}
+
 // TestMiddleOfAllShortNodes: of four rows of one column and of two, each way in which they can live.
 func TestMiddleOfAllShortNodes(t *testing.T) {
 	for _, r := range []api.Rule{conway(), odd(), births(api.Hex, 1<<2|1<<4, 1<<1)} {

@@ -12,36 +12,28 @@ type three [3]string
 type press struct {
 	rule  api.Rule
 	strip api.Topo
-	most  int // rows of a book
 	book  *rows.Book
 }
 
-// A book has room for three rows, the empty one and what comes of them, and for no more cells than a few megabytes hold.
-const (
-	leastBook = 5
-	bookCells = 1 << 24
-)
+// bookCells is how many cells a book has room for, so that a wide strip's does not fill the memory: at most MaxBook rows, and at the greatest width still many more than one asking needs.
+const bookCells = 1 << 24
 
-// newPress is that of a sea of so many nodes.
-func newPress(r api.Rule, t api.Topo, nodes int) press {
-	p := press{rule: r, strip: t, most: max(leastBook, min(nodes, bookCells/t.W, api.MaxBook))}
-	p.begin()
-	return p
+// begin takes a new book.
+func (p *press) begin() {
+	p.book, _ = rows.New(p.rule, p.strip, min(api.MaxBook, bookCells/p.strip.W))
 }
-
-func (p *press) begin() { p.book, _ = rows.New(p.rule, p.strip, p.most) }
 
 // next is the row one generation later.
 func (p *press) next(beside three) string {
 	cells, e := p.ask(beside)
 	if e != api.OK {
 		p.begin()
-		cells, _ = p.ask(beside)
+		cells, _ = p.ask(beside) // a new book has room
 	}
 	return string(cells)
 }
 
-// ask is what the book answers; ErrBudget: it is full.
+// ask is what the book answers; ErrBudget: it is full. ErrNil: there is none yet.
 func (p *press) ask(beside three) ([]uint8, api.Errno) {
 	var ids [3]int
 	for i, row := range beside {

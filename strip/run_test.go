@@ -267,6 +267,40 @@ func TestRunOfWideAndHighBands(t *testing.T) {
 	}
 }
 
+// TestRunOfTheWidestAgainAndAgain: bands of MaxSide columns, one after the other in a sea that is enough for each of them, of which all together work out more cells than one call may.
+func TestRunOfTheWidestAgainAndAgain(t *testing.T) {
+	a := api.Topo{Kind: api.Torus, W: api.MaxSide}
+	r := births(api.Moore, 0, 511) // what lives stays
+	d := dice(81)
+	kinds := d.rowsOf(a, 3, 2)
+	one := api.Band{W: a.W, Rows: make([][]uint8, 14)}
+	spare, _ := enough(api.Band{W: a.W, Rows: slices.Repeat(kinds, 5)[:14]}, 1)
+	s := mustNew(t, r, a, spare)
+	for range 110 {
+		for y := range one.Rows {
+			one.Rows[y] = kinds[d.below(3)]
+		}
+		if got, e := s.Run(one, 1); e != api.OK || !same(got, one) {
+			t.Fatalf("%d rows, %d", len(got.Rows), e)
+		}
+	}
+}
+
+// TestWhatARunMustWorkOut: a Run of which the chapter says that it is not ErrBudget works out fewer cells than MaxWork, whatever the sea: so Run may refuse at that.
+func TestWhatARunMustWorkOut(t *testing.T) {
+	most := 0
+	for k := 2; k <= 20; k++ {
+		for n := 1; (k+2)<<k*(n+1) <= api.MaxSea; n++ {
+			for rows := 1; 4*(rows+2*n+4) <= 1<<k; rows++ {
+				most = max(most, n*(rows+n+1)*min(api.MaxSide, api.MaxCells/(rows+2*n)))
+			}
+		}
+	}
+	if most == 0 || most >= api.MaxWork {
+		t.Errorf("%d cells", most)
+	}
+}
+
 // TestRunToATooHighAnswer: a row that grows by one at each end in each generation: the highest answer that may be, and the one behind it.
 func TestRunToATooHighAnswer(t *testing.T) {
 	for _, c := range []struct{ w, most int }{{1, 1 << 20}, {3, 349525}, {7, 149796}, {1000, 1048}, {65536, 16}} {
