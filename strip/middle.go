@@ -14,7 +14,7 @@ func (s *Sea) middle(id, j int) int {
 // workOut is what middle remembers.
 func (s *Sea) workOut(id, j int) int {
 	n := s.nodes[id]
-	up, low := s.nodes[n.half.up].half, s.nodes[n.half.low].half
+	up, low := s.quarters(id)
 	if n.level == 2 {
 		return s.pair(s.next(up.up, up.low, low.up), s.next(up.low, low.up, low.low))
 	}

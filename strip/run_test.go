@@ -225,6 +225,21 @@ func TestRunOfMoreGenerations(t *testing.T) {
 	}
 }
 
+// TestRunAtTheEdgeOfThePromise: about as many nodes as a sea may have are just enough; high bands and wide ones, with about MaxCells cells at the end.
+func TestRunAtTheEdgeOfThePromise(t *testing.T) {
+	d := dice(72)
+	for _, c := range []struct{ w, rows, n int }{{256, 4090, 1}, {512, 2030, 7}, {8000, 2, 60}, {65536, 14, 1}, {1, 84, 84}} {
+		a := api.Topo{Kind: api.Torus, W: c.w}
+		one := d.band(c.w, -9, c.rows, 2)
+		one.Rows[0][0], one.Rows[c.rows-1][0] = 1, 1
+		spare, is := enough(one, c.n)
+		if !is || spare > api.MaxSea {
+			t.Fatalf("%d columns, %d rows, %d generations: nothing is promised", c.w, c.rows, c.n)
+		}
+		newBoth(t, conway(), a, spare).mustRun(one, c.n)
+	}
+}
+
 // TestRunFarBeyondThePromise: in the greatest sea, as many generations as window.Run can tell.
 func TestRunFarBeyondThePromise(t *testing.T) {
 	d := dice(73)
@@ -272,13 +287,13 @@ func TestRunOfTheWidestAgainAndAgain(t *testing.T) {
 	a := api.Topo{Kind: api.Torus, W: api.MaxSide}
 	r := births(api.Moore, 0, 511) // what lives stays
 	d := dice(81)
-	kinds := d.rowsOf(a, 3, 2)
+	kinds := d.rowsOf(a, 5, 2)
 	one := api.Band{W: a.W, Rows: make([][]uint8, 14)}
-	spare, _ := enough(api.Band{W: a.W, Rows: slices.Repeat(kinds, 5)[:14]}, 1)
+	spare, _ := enough(api.Band{W: a.W, Rows: slices.Repeat(kinds, 3)[:14]}, 1)
 	s := mustNew(t, r, a, spare)
-	for range 110 {
+	for range 150 {
 		for y := range one.Rows {
-			one.Rows[y] = kinds[d.below(3)]
+			one.Rows[y] = kinds[d.below(5)]
 		}
 		if got, e := s.Run(one, 1); e != api.OK || !same(got, one) {
 			t.Fatalf("%d rows, %d", len(got.Rows), e)

@@ -38,6 +38,12 @@ func newStore(most int) store {
 
 func (s *store) level(id int) int { return s.nodes[id].level }
 
+// quarters are the halves of a node's halves.
+func (s *store) quarters(id int) (up, low halves) {
+	half := s.nodes[id].half
+	return s.nodes[half.up].half, s.nodes[half.low].half
+}
+
 // row is the node of one row.
 func (s *store) row(cells string) int {
 	if id, is := s.rows[cells]; is {

@@ -72,12 +72,6 @@ func (s *Sea) tight(id int) int {
 	return id
 }
 
-// quarters are the halves of a node's halves.
-func (s *Sea) quarters(id int) (up, low halves) {
-	half := s.nodes[id].half
-	return s.nodes[half.up].half, s.nodes[half.low].half
-}
-
 // wide is the node with as many empty rows more, half of them at each end.
 func (s *Sea) wide(id int) int {
 	half, empty := s.nodes[id].half, s.empty(s.level(id)-1)
