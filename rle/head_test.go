@@ -75,7 +75,6 @@ func TestReadOfHeadsRules(t *testing.T) {
 	refuses(t, "x = 3, y = 4, rule = a\rb\rc\n!", api.ErrHead, 22)
 	refuses(t, "x = 3, y = 4, rule = a \r\r\n!", api.ErrHead, 23)
 	refuses(t, "x = 3, y = 4, rule = a\r \n!", api.ErrHead, 22)
-	heads(t, "x = 3, y = 4, rule = a \r\n!"[:22], bare(3, 4, "a"))
 }
 
 // TestReadOfHeadsThatEndEarly: at the end of each piece, and within the words.
